@@ -1,4 +1,4 @@
-"""Where leaves are put, one after the other, each at the first place where it fits."""
+"""Layouts, each as its leaves' first bits: when one is right, and how leaves are put one after the other."""
 
 NOT_PUT = -1
 
@@ -7,8 +7,35 @@ def size_of(span):
     return (span + 7) // 8
 
 
+def span_of(record, starts):
+    return max([start + leaf.width for start, leaf in zip(starts, record.leaves)])
+
+
 def crosses(start, width, word):
     return 0 < word and width <= word and start // word != (start + width - 1) // word
+
+
+def crosses_any(record, starts, word):
+    return any([crosses(start, leaf.width, word) for start, leaf in zip(starts, record.leaves)])
+
+
+def is_right(record, size, starts):
+    return not any([has_fault(record, number, size, starts) for number in range(len(starts))])
+
+
+def has_fault(record, number, size, starts):
+    leaf = record.leaves[number]
+    start = starts[number]
+    if start + leaf.width > 8 * size or start % leaf.align != 0:
+        return True
+    # Later leaves are looked at too: a bit that two leaves share is a fault of the layout, whichever comes first.
+    return any([overlap(record, number, rival, starts) for rival in record.rivals[number]])
+
+
+def overlap(record, number, other, starts):
+    start = starts[number]
+    other_start = starts[other]
+    return start < other_start + record.leaves[other].width and other_start < start + record.leaves[number].width
 
 
 def round_up(bit, align):
@@ -48,41 +75,14 @@ def beyond_hindrance(record, number, start, starts, word):
     return start
 
 
-def span_of(record, starts):
-    return max([start + leaf.width for start, leaf in zip(starts, record.leaves)])
+def own_order(record):
+    return list(range(len(record.leaves)))
 
 
 def rule_order(record):
     leaves = record.leaves
-    return sorted(range(len(leaves)), key=lambda number: (-leaves[number].align, -leaves[number].width, number))
+    return sorted(own_order(record), key=lambda number: (-leaves[number].align, -leaves[number].width, number))
 
 
-def least_layout(record, word):
-    search = Search(record, word)
-    search.put_next([NOT_PUT] * len(record.leaves), len(record.leaves), 0)
-    return search.best
-
-
-# All orders are gone through, the first one first; best is the first layout
-# among those with the least span so far.
-class Search:
-    def __init__(self, record, word):
-        self.record = record
-        self.word = word
-        self.best = []
-        self.best_span = -1
-
-    def put_next(self, starts, left, span):
-        if left == 0:
-            self.best = starts
-            self.best_span = span
-        for number, leaf in enumerate(self.record.leaves):
-            if starts[number] == NOT_PUT:
-                start = first_fit(self.record, number, starts, self.word)
-                reached = max(span, start + leaf.width)
-                if self.is_better(reached):
-                    self.put_next(starts[:number] + [start] + starts[number + 1:], left - 1, reached)
-
-    # A span never shrinks while more leaves are put, so what isn't better by now won't be.
-    def is_better(self, span):
-        return self.best_span == -1 or span < self.best_span
+def span_in_order(record, order, word):
+    return span_of(record, put_in_order(record, order, word))

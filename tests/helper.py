@@ -32,6 +32,22 @@ def rule(r, w):
     return [3, r, w]
 
 
+def waste(r, w):
+    return [4, r, w]
+
+
+def orders(r, w):
+    return [5, r, w]
+
+
+def judge(r, w, n, starts):
+    return [6, r, w, n, len(starts)] + list(starts)
+
+
+def table(w):
+    return [7, w]
+
+
 def split(told):
     rows = []
     at = 0
@@ -48,6 +64,14 @@ def ask(*calls):
 
 def ask_of(text, *calls):
     return ask(load(text), *calls)[1:]
+
+
+def ask_all_of(text, calls):
+    """However many calls, in lists of 60 each."""
+    told = []
+    for at in range(0, len(calls), 59):
+        told += ask_of(text, *calls[at:at + 59])
+    return told
 
 
 def loaded(text):
@@ -195,6 +219,13 @@ def told_layout(leaves, starts):
     return [span, -(-span // 8)] + starts
 
 
+def model_rule_order(leaves):
+    order = list(range(len(leaves)))
+    order.sort(key=lambda number: leaves[number][0], reverse=True)
+    order.sort(key=lambda number: leaves[number][1], reverse=True)
+    return order
+
+
 def model_least(leaves, w):
     """The first order, among all in their order, that has the least span."""
     best = None
@@ -220,6 +251,14 @@ def layout_faults(leaves, size, starts, w):
         if model_crosses(start, width, w):
             faults.append(("crosses", number))
     return faults
+
+
+def model_judge(leaves, w, n, starts, least_span):
+    """least_span is -1 for a record with more leaves than are tried."""
+    if layout_faults(leaves, n, starts, w):
+        return [0]
+    span = model_span(leaves, starts)
+    return [1, span, -1 if least_span == -1 else span - least_span, span - bound_of(leaves)]
 
 
 def has_layout_within(leaves, span, w):
@@ -280,6 +319,15 @@ def random_records(rng, most_leaves, greatest_width=21):
         if len(leaves_of(records, len(records) - 1)) > most_leaves:
             records.pop()
     return records
+
+
+def plain_record(rng, count, greatest_width=21):
+    return [("R", [("f" + str(k), random_number(rng, greatest_width), 1) for k in range(count)])]
+
+
+def small_records(rng):
+    """A record of numbers for each count of leaves that is tried."""
+    return [("R" + str(count), plain_record(rng, count)[0][1]) for count in range(1, 7)]
 
 
 def shuffled(rng, count):

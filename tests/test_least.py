@@ -3,11 +3,7 @@
 import random
 import unittest
 
-from tests.helper import WORDS, ask_of, leaves_of, least, model_least, one_form, random_records, random_number
-
-
-def plain_record(rng, count):
-    return [("R", [("f" + str(k), random_number(rng, 21), 1) for k in range(count)])]
+from tests.helper import WORDS, ask_of, leaves_of, least, model_least, one_form, plain_record, random_records
 
 
 class Least(unittest.TestCase):

@@ -3,7 +3,9 @@
 import random
 import unittest
 
-from tests.helper import WORDS, ask_of, bound_of, leaves_of, model_put, one_form, random_records, rule, told_layout
+from tests.helper import (
+    WORDS, ask_of, bound_of, leaves_of, model_put, model_rule_order, one_form, random_records, rule, told_layout,
+)
 
 
 def ruled(text, w=0, r=0):
@@ -77,9 +79,7 @@ class AgainstTheModel(unittest.TestCase):
             records = random_records(rng, 18)
             for r in range(len(records)):
                 leaves = leaves_of(records, r)
-                order = sorted(range(len(leaves)))
-                order.sort(key=lambda number: leaves[number][0], reverse=True)
-                order.sort(key=lambda number: leaves[number][1], reverse=True)
+                order = model_rule_order(leaves)
                 bound = bound_of(leaves)
                 told = []
                 for w in WORDS:
